@@ -6,6 +6,7 @@ import (
 	"testing"
 
 	"jointer/api"
+	"jointer/calc"
 	"jointer/show"
 )
 
@@ -40,6 +41,22 @@ func TestOneNode(t *testing.T) {
 	}
 	if len(valid) != 29 || valid[api.OpColumn] != 0 || valid[api.OpAgg] != 1+5*2 || valid[api.OpConst] != 2 || valid[api.OpName] != 2 || valid[api.OpCase] != 3 || valid[api.OpCoalesce] != 4 {
 		t.Errorf("the valid terms of each operator: %v", valid)
+	}
+}
+
+// TestNumbersOfKids checks that the operators of layer 5 have the numbers of kids that layer 5 lets them have, but for AND and OR.
+func TestNumbersOfKids(t *testing.T) {
+	for op := api.OpNeg; op <= api.OpCoalesce; op++ {
+		for n := range 10 {
+			_, e := calc.Kind(op, make([]api.Kind, n))
+			want := e == api.OK
+			if op == api.OpAnd || op == api.OpOr {
+				want = n == 2
+			}
+			if valid := show.ValidTerm(api.Term{Op: op, Kids: make([]api.Term, n)}); valid != want {
+				t.Errorf("the operator %d with %d kids: %v", op, n, valid)
+			}
+		}
 	}
 }
 
